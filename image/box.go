@@ -100,11 +100,7 @@ func Points(b api.Box) ([][]int, api.Errno) {
 	if err := CheckBox(b); err != api.OK {
 		return nil, err
 	}
-	out := make([][]int, 0, sizeOf(b))
-	for p := range points(b) {
-		out = append(out, slices.Clone(p[:len(b)]))
-	}
-	return out, api.OK
+	return list.Map(slices.Collect(points(b)), func(p point) []int { return slices.Clone(p[:len(b)]) }), api.OK
 }
 
 // pointOf returns a point of a box with so many dimensions.

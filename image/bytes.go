@@ -42,7 +42,7 @@ func Encode(im api.Image) ([]byte, api.Errno) {
 		out = appended(out, uint64(r.Extent), extentBytes)
 	}
 	size := bytesOf(im.Kind)
-	for _, bits := range elements(im) {
+	for _, bits := range taken(im, im.Box, itself) {
 		out = appended(out, bits, size)
 	}
 	return out, api.OK

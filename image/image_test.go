@@ -362,3 +362,31 @@ func TestSame(t *testing.T) {
 		t.Error("images with different dimensions", same, err)
 	}
 }
+
+// TestOwnMemory changes results, and looks at the arguments.
+func TestOwnMemory(t *testing.T) {
+	spoil := func(im api.Image, err api.Errno) {
+		if err != api.OK {
+			t.Error(err)
+		}
+		for i := range im.Data {
+			im.Data[i] = 1
+		}
+		for i := range im.Box {
+			im.Box[i], im.Strides[i] = api.Range{Min: 77}, 77
+		}
+	}
+	im, b, data := example(), box(2, 3, 0, 2), []uint64{10, 20, 30, 40, 50, 60}
+	spoil(image.Make(api.U8, b, data))
+	spoil(image.Crop(im, b))
+	spoil(image.Dense(im))
+	spoil(image.Slice(im, 0, 3))
+	spoil(image.Transpose(im, 0, 0))
+	spoil(image.Set(im, []int{2, 0}, api.Value{Kind: api.U8}))
+	l, _ := image.Encode(im)
+	kept := slices.Clone(l)
+	spoil(image.Decode(l))
+	if !slices.Equal(b, box(2, 3, 0, 2)) || !slices.Equal(data, example().Data) || !equal(im, example()) || !slices.Equal(l, kept) {
+		t.Error("shared memory", b, data, im, l)
+	}
+}

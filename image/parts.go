@@ -15,10 +15,18 @@ const (
 	Constant // 3
 )
 
-// part returns the dense image of a box whose points have the values of other points of an image.
+// taken returns the elements of an image for the points of a box, each of which stands in the image at another point.
+func taken(im api.Image, b api.Box, from func(point) point) []uint64 {
+	data := make([]uint64, 0, sizeOf(b))
+	for p := range points(b) {
+		data = append(data, bitsAt(im, from(p)))
+	}
+	return data
+}
+
+// part returns the dense image of such elements.
 func part(im api.Image, b api.Box, from func(point) point) api.Image {
-	data := list.Map(slices.Collect(points(b)), func(p point) uint64 { return bitsAt(im, from(p)) })
-	return dense(im.Kind, b, data)
+	return dense(im.Kind, b, taken(im, b, from))
 }
 
 func itself(p point) point {

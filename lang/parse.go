@@ -5,7 +5,6 @@ import (
 
 	"halation/api"
 	"halation/list"
-	"halation/num"
 )
 
 // reader is the tokens of a text, of which those before at have been read, and the first error.
@@ -139,8 +138,9 @@ func (p *parser) expression(least int) bool {
 	}
 reading:
 	for {
-		op, level := operator(p.peek())
-		if level < least {
+		next := p.peek()
+		op, level := operator(next.Text)
+		if next.Kind != ASign || level < least {
 			break reading
 		}
 		p.take()
@@ -153,18 +153,6 @@ reading:
 		}
 	}
 	return true
-}
-
-// operator returns the Op of a sign between two operands and its level, which is below all others if it is none.
-func operator(t Token) (int, int) {
-	if t.Kind == ASign {
-		for level, s := range signs() {
-			if text(s.sign) == t.Text {
-				return s.op, level
-			}
-		}
-	}
-	return 0, -1
 }
 
 // operand reads an expression of the highest level.
@@ -207,11 +195,12 @@ func (p *parser) param(t Token) bool {
 
 // kindOf returns the kind that the suffix of a name says, or, without one, its declaration.
 func (p *parser) kindOf(op int, t Token) (int, api.Errno) {
-	if t.Suffix != "" {
-		return num.Kind(t.Suffix)
+	if t.Suffix == "" {
+		kind, ok := declared(p.decls, op, t.Text)
+		return kind, list.ErrorIf(!ok, api.ErrUnknown)
 	}
-	kind, ok := declared(p.decls, op, t.Text)
-	return kind, list.ErrorIf(!ok, api.ErrUnknown)
+	what, ok := p.words[t.Suffix]
+	return what.detail, list.ErrorIf(!ok || what.op != api.ECast, api.ErrUnknown)
 }
 
 // word reads what begins with a word: what stands behind it says what it is.

@@ -16,15 +16,11 @@ type printer struct {
 	nodes    api.Expr
 	decls    []Decl
 	reserved map[string]phrase
-	words    map[phrase]string
 }
 
 // printed returns the text of right expressions.
 func printed(exprs []api.Expr, l []Decl) (string, api.Errno) {
-	p := printer{decls: l, reserved: dictionary(), words: map[phrase]string{}}
-	for word, what := range p.reserved {
-		p.words[what] = word
-	}
+	p := printer{decls: l, reserved: dictionary()}
 	for i, e := range exprs {
 		if i > 0 {
 			p.WriteString(between)
@@ -72,7 +68,7 @@ func (p *printer) write(at int) {
 		p.kids(n)
 		p.join(brackets[i].right)
 	default:
-		p.join(p.words[phraseOf(n)], "(")
+		p.join(phraseOf(n).word(), "(")
 		p.kids(n)
 		p.join(")")
 	}
@@ -113,7 +109,7 @@ func (p *printer) suffix(n api.Node) string {
 	if slices.Contains(p.decls, Decl{n.Op, n.Name, n.Kind}) && !(n.Op == api.ECall && p.isReserved(n.Name)) {
 		return ""
 	}
-	return "." + p.words[phrase{api.ECast, n.Kind}]
+	return "." + kindName(n.Kind)
 }
 
 // kids writes the expressions and the numbers that stand in brackets.

@@ -5,10 +5,13 @@ import (
 	"strings"
 
 	"halation/api"
+	"halation/list"
 )
 
-// highest is the level of all expressions that are not those of a sign with two operands.
-const highest = 7
+const (
+	highest = 7  // the level of all expressions that are not those of a sign with two operands
+	noLevel = -1 // that of a sign that does not stand between two operands
+)
 
 // plainSigns are the signs of one byte that stand between no operands.
 const plainSigns = "()[]{},!"
@@ -63,12 +66,20 @@ func Sign(op int) (string, int, api.Errno) {
 
 // SignOp returns the Op with a sign.
 func SignOp(s string) (int, api.Errno) {
-	for _, known := range signs() {
-		if text(known.sign) == s {
-			return known.op, api.OK
+	op, level := operator(s)
+	return op, list.ErrorIf(level == noLevel, api.ErrUnknown)
+}
+
+// operator returns the Op with a sign, and its level, which is below all others if the sign has none.
+func operator(s string) (int, int) {
+	var sign [2]byte
+	copy(sign[:], s)
+	for level, known := range signs() {
+		if known.sign == sign && text(sign) == s {
+			return known.op, level
 		}
 	}
-	return 0, api.ErrUnknown
+	return 0, noLevel
 }
 
 // signAt returns the longest sign at the start of a text, or "" if there is none.

@@ -1,9 +1,6 @@
 package lang
 
 import (
-	"iter"
-	"maps"
-
 	"halation/api"
 	"halation/expr"
 	"halation/num"
@@ -17,11 +14,14 @@ type phrase struct {
 	detail int
 }
 
-// wordTable has the reserved words but for the kinds.
-var wordTable = [...]struct {
+// worded is a reserved word with what it stands for.
+type worded struct {
 	word string
 	phrase
-}{
+}
+
+// wordTable has the reserved words but for the kinds.
+var wordTable = [...]worded{
 	{"true", phrase{api.EConst, 1}},
 	{"false", phrase{api.EConst, 0}},
 	{"min", phrase{op: api.EMin}},
@@ -42,26 +42,41 @@ var wordTable = [...]struct {
 	{"reduce_xor", phrase{api.EReduce, api.EXor}},
 }
 
-// phrases visits all reserved words.
-func phrases() iter.Seq2[string, phrase] {
-	return func(yield func(string, phrase) bool) {
-		for _, w := range wordTable {
-			if !yield(w.word, w.phrase) {
-				return
-			}
-		}
-		for kind := range api.Kinds {
-			name, _ := num.Name(kind) // these kinds have names
-			if !yield(name, phrase{api.ECast, kind}) || !yield(satPrefix+name, phrase{api.ESat, kind}) {
-				return
-			}
-		}
-	}
-}
-
 // dictionary returns what the reserved words stand for.
 func dictionary() map[string]phrase {
-	return maps.Collect(phrases())
+	words := make(map[string]phrase, len(wordTable)+2*api.Kinds)
+	for _, w := range wordTable {
+		words[w.word] = w.phrase
+	}
+	for kind := range api.Kinds {
+		for _, op := range []int{api.ECast, api.ESat} {
+			p := phrase{op, kind}
+			words[p.word()] = p
+		}
+	}
+	return words
+}
+
+// word returns the reserved word that stands for something, if there is one.
+func (p phrase) word() string {
+	switch p.op {
+	case api.ECast:
+		return kindName(p.detail)
+	case api.ESat:
+		return satPrefix + kindName(p.detail)
+	}
+	for _, w := range wordTable {
+		if w.phrase == p {
+			return w.word
+		}
+	}
+	return ""
+}
+
+// kindName returns the name of a kind that there is.
+func kindName(kind int) string {
+	name, _ := num.Name(kind)
+	return name
 }
 
 // Reserved reports whether a word has a meaning of its own.
@@ -89,7 +104,7 @@ func formOf(op int) form {
 		api.EImage:     {fill: given},
 		api.ELoad:      {fill: given},
 		api.EAdd:       {exprs: 2, fill: operation},
-		api.ENot:       {exprs: 1, fill: operation},
+		api.ENot:       {fill: operation},
 		api.ECast:      {exprs: 1, fill: given},
 		api.ESat:       {exprs: 1, fill: given},
 		api.ESelect:    {exprs: 3, fill: selection},

@@ -123,6 +123,19 @@ func TestCheckFunctions(t *testing.T) {
 	}
 }
 
+func TestCheckFull(t *testing.T) {
+	p := larger()
+	p.Funcs[2].Updates = append(p.Funcs[2].Updates, p.Funcs[2].Updates[1])
+	if at, err := pipe.Check(p); err != api.OK || at != (pipe.Place{}) {
+		t.Error("three updates", at, err)
+	}
+	room := []string{"x", "y", "kept"} // a list of arguments with room behind it
+	p.Funcs[2].Args = room[:2]
+	if _, err := pipe.Check(p); err != api.OK || room[2] != "kept" {
+		t.Error("a changed argument", err, room)
+	}
+}
+
 // firstError is Check in the document's words, sentence by sentence.
 func firstError(p api.Pipeline) (out pipe.Place, err api.Errno) {
 	defer func() {
