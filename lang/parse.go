@@ -158,17 +158,18 @@ reading:
 // operand reads an expression of the highest level.
 func (p *parser) operand() bool {
 	t := p.take()
+	if t.isWord() && len(t.Text) > api.MaxName { // reserved words are shorter, so it is a name
+		return p.fail(t.At, api.ErrName)
+	}
 	switch {
 	case t.Kind == ANumber:
 		return p.literal(t)
-	case t.Kind == AWord && len(t.Text) <= api.MaxName:
+	case t.Kind == AWord:
 		return p.word(t)
-	case t.Kind == AVar && len(t.Text) <= api.MaxName:
-		return p.leaf(api.Node{Op: api.EVar, Kind: api.I32, Name: t.Text})
-	case t.Kind == AParam && len(t.Text) <= api.MaxName:
+	case t.Kind == AParam:
 		return p.param(t)
-	case t.Kind == AWord, t.Kind == AVar, t.Kind == AParam:
-		return p.fail(t.At, api.ErrName)
+	case t.Kind == AVar:
+		return p.leaf(api.Node{Op: api.EVar, Kind: api.I32, Name: t.Text})
 	case t.is("!"):
 		return p.operand() && p.branch(phrase{op: api.ENot}, "", 1, nil)
 	case t.is("("):

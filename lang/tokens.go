@@ -184,6 +184,11 @@ func (t Token) is(sign string) bool {
 	return t.Kind == ASign && t.Text == sign
 }
 
+// isWord reports whether a token has a word.
+func (t Token) isWord() bool {
+	return t.Kind == AWord || t.Kind == AParam || t.Kind == AVar
+}
+
 func (t Token) closes() bool {
 	return t.is(")") || t.is("]") || t.is("}")
 }
