@@ -171,6 +171,21 @@ func TestMadePipelines(t *testing.T) {
 	}
 }
 
+// TestShortConditions has conditions of one node.
+func TestShortConditions(t *testing.T) {
+	lines := []string{"pipeline p", "param on bool 0 1", "func f(x) i32 = x", "where @on", "set x = 1", "where true", "set x = 2", "set x = 3", "end"}
+	p, _, _, err := front.Parse(textOf(lines))
+	s, err2 := front.Print(p)
+	if err != api.OK || err2 != api.OK || s != textOf(lines) {
+		t.Error(s, err, err2)
+	}
+	for stage, want := range []int{2, 4, 6, 7} {
+		if line, err := front.Line(p, pipe.Place{Stage: stage}); line != want || err != api.OK {
+			t.Error("Line", stage, line, err)
+		}
+	}
+}
+
 // TestLongTexts prints what is too long.
 func TestLongTexts(t *testing.T) {
 	name := strings.Repeat("v", 24)

@@ -131,8 +131,8 @@ func (r *reader) take(line string) api.Errno {
 
 // fields returns the words of the rest of a line, of which there must be so many.
 func fields(rest string, count int) ([]string, api.Errno) {
-	words, ok := text.Words(rest)
-	if !ok || len(words) != count {
+	words, _ := text.Words(rest) // none, if they are not separated as they should be
+	if len(words) != count {
 		return nil, api.ErrSyntax
 	}
 	return words, api.OK
@@ -200,8 +200,8 @@ func isPart(word string) bool {
 }
 
 func (r *reader) readFunction(rest string) api.Errno {
-	name, rest, opened := strings.Cut(rest, "(")
-	args, rest, closed := strings.Cut(rest, ")")
+	name, rest, _ := strings.Cut(rest, "(") // without a bracket, some part behind it is empty
+	args, rest, _ := strings.Cut(rest, ")")
 	rest, spaced := strings.CutPrefix(rest, " ")
 	kindName, value, defined := strings.Cut(rest, " = ")
 	fn := api.Func{Name: name, Args: strings.Split(args, ", ")}
@@ -211,7 +211,7 @@ func (r *reader) readFunction(rest string) api.Errno {
 		}
 	}
 	kind, err := num.Kind(kindName)
-	if err := list.FirstError(list.ErrorIf(!opened || !closed || !spaced || !defined, api.ErrSyntax), err); err != api.OK {
+	if err := list.FirstError(list.ErrorIf(!spaced || !defined, api.ErrSyntax), err); err != api.OK {
 		return err
 	}
 	fn.Kind = kind
