@@ -83,10 +83,7 @@ func claimOf(d api.Directive) (claim, bool) {
 
 // isExcluded reports whether a right directive is excluded by a right one of a list.
 func isExcluded(d api.Directive, l []api.Directive) bool {
-	own, ok := claimOf(d)
-	if !ok {
-		return false
-	}
+	own, _ := claimOf(d) // without one it is like no other's
 	found := false
 search:
 	for _, other := range l {

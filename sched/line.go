@@ -77,8 +77,8 @@ func ParseDirective(s string) (api.Directive, api.Errno) {
 
 // read returns the directive of a line that has the form of one.
 func read(line string) (api.Directive, bool) {
-	l, ok := text.Words(line)
-	if !ok || len(l) < 2 {
+	l, _ := text.Words(line)
+	if len(l) < 2 {
 		return api.Directive{}, false
 	}
 	op, err := Op(l[1])

@@ -225,6 +225,26 @@ func TestTexts(t *testing.T) {
 	}
 }
 
+// TestMemory prints directives whose variables are followed by others in memory.
+func TestMemory(t *testing.T) {
+	vars := []string{"x", "y", "z", "kept", "kept"}
+	for op, r := range rows {
+		d := api.Directive{Func: "f", Op: op, Vars: vars[:r.least], Factor: min(r.factor, 1)}
+		if r.at {
+			d.At = "g"
+		}
+		if _, err := sched.PrintDirective(d); err != api.OK {
+			t.Error(r.word, err)
+		}
+		if _, err := sched.Print(api.Schedule{d}); err != api.OK {
+			t.Error(r.word, err)
+		}
+	}
+	if !slices.Equal(vars, []string{"x", "y", "z", "kept", "kept"}) {
+		t.Error("changed", vars)
+	}
+}
+
 // TestLongestText prints the longest schedule that there is, which is not too long.
 func TestLongestText(t *testing.T) {
 	d := api.Directive{Func: strings.Repeat("f", 24), Stage: 3, Op: api.Reorder}
