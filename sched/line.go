@@ -92,7 +92,8 @@ func read(line string) (api.Directive, bool) {
 	if !f.vars.admits(vars) || !readHead(&d, f, l[0]) {
 		return api.Directive{}, false
 	}
-	return d, f.read(&d, vars, rest.next)
+	isRead := f.read(&d, vars, rest.next)
+	return d, isRead
 }
 
 // readHead reads the function's name, and the stage, if loops are meant.
