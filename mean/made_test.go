@@ -356,3 +356,89 @@ func TestAllOps(t *testing.T) {
 		}
 	}
 }
+
+// spoil changes something in a pipeline or in what it is given, of which both may stay right.
+func spoil(r *rand.Rand, p *api.Pipeline, g *api.Given) {
+	f := &p.Funcs[r.Intn(len(p.Funcs))]
+	n := []int{-1, 0, 1, 2, 7, 11, 1 << 40, -1 << 63}[r.Intn(8)]
+	e := f.Value
+	if len(f.Updates) > 0 && r.Intn(2) == 0 {
+		u := &f.Updates[r.Intn(len(f.Updates))]
+		e = u.Value
+		switch r.Intn(5) {
+		case 0:
+			u.Left = append(u.Left, e)
+		case 1:
+			u.Domain = append(u.Domain, axis("r1", n, n))
+		case 2:
+			u.Where = e
+		case 3:
+			e = u.Left[0]
+		}
+	}
+	node := &e[r.Intn(len(e))]
+	switch r.Intn(10) {
+	case 0:
+		node.Op = n
+	case 1:
+		node.Kind = n
+	case 2:
+		node.Kids = append(node.Kids, n)
+	case 3:
+		node.Name = []string{"", "x", "f0", "in0", "p0", "r0"}[r.Intn(6)]
+	case 4:
+		f.Args = append(f.Args, "w")
+	case 5:
+		f.Kind = n
+	case 6:
+		g.Images = append(g.Images, api.Image{Kind: n, Box: make(api.Box, 2), Strides: []int{n, n}})
+	case 7:
+		g.Params = append(g.Params, api.Value{Kind: n})
+	case 8:
+		if len(g.Images) > 0 {
+			g.Images[0].Box = append(g.Images[0].Box, api.Range{Min: n, Extent: n})
+		}
+	case 9:
+		node.Bits = uint64(n)
+	}
+}
+
+// TestSpoilt gives things of any form to all functions, which have the errors of CheckGiven, or the oracle's.
+func TestSpoilt(t *testing.T) {
+	wrong := 0
+	for seed := range int64(4000) {
+		r := rand.New(rand.NewSource(seed))
+		p, g := makePipeline(seed % 300)
+		for range 1 + r.Intn(2) {
+			spoil(r, &p, &g)
+		}
+		want := mean.CheckGiven(p, g)
+		out := p.Funcs[len(p.Funcs)-1]
+		at := []int{r.Intn(5), r.Intn(5), r.Intn(5), 0, 0}[:min(5, len(out.Args))]
+		if want == api.OK {
+			o := newOracle(p, g)
+			want = caught(func() { o.at(len(p.Funcs)-1, len(out.Updates), at) })
+		} else {
+			wrong++
+		}
+		_, e1 := mean.At(p, g, out.Name, at)
+		_, e2 := mean.Reads(p, g, out.Name, at)
+		b := make(api.Box, len(at))
+		for i := range b {
+			b[i] = api.Range{Min: at[i], Extent: 1}
+		}
+		_, e3 := mean.Realize(p, g, b)
+		_, e4 := mean.Work(p, g, b)
+		if e1 != want || e2 != want || e3 != want || e4 != want {
+			t.Fatal(seed, want, e1, e2, e3, e4)
+		}
+		for k := range out.Updates {
+			if _, err := mean.Pure(out, k); err != api.OK && err != api.ErrShape {
+				t.Fatal("Pure", seed, err)
+			}
+		}
+	}
+	if wrong < 1000 {
+		t.Error("few are wrong", wrong)
+	}
+}
