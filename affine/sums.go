@@ -6,6 +6,7 @@ import (
 	"halation/api"
 	"halation/expr"
 	"halation/list"
+	"halation/tree"
 )
 
 // collection is terms by the keys of their atoms.
@@ -24,7 +25,7 @@ func (c collection) terms() []Term {
 	var out []Term
 	for _, t := range c {
 		if t.Coeff != 0 {
-			out = append(out, Term{t.Coeff, moved(t.Atom, 0)})
+			out = append(out, Term{t.Coeff, tree.Moved(t.Atom, 0)})
 		}
 	}
 	slices.SortFunc(out, Term.compare)
@@ -74,7 +75,7 @@ func (f Form) without(atom api.Expr) Form {
 	if at := f.find(atom); at >= 0 {
 		rest = slices.Delete(rest, at, at+1)
 	}
-	return Form{list.Map(rest, func(t Term) Term { return Term{t.Coeff, moved(t.Atom, 0)} }), f.Const}
+	return Form{list.Map(rest, func(t Term) Term { return Term{t.Coeff, tree.Moved(t.Atom, 0)} }), f.Const}
 }
 
 // Sum returns a form plus another one by a factor.

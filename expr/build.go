@@ -4,6 +4,7 @@ import (
 	"halation/api"
 	"halation/list"
 	"halation/num"
+	"halation/tree"
 )
 
 // above returns a node above some expressions, which become its kids. It has the lanes of the first of them.
@@ -11,7 +12,7 @@ func above(n api.Node, below ...api.Expr) api.Expr {
 	var out api.Expr
 	n.Lanes = 1
 	for i, e := range below {
-		out = append(out, shifted(e, len(out))...)
+		out = append(out, tree.Moved(e, len(out))...)
 		n.Kids = append(n.Kids, len(out)-1)
 		if i == 0 {
 			n.Lanes = out[len(out)-1].Lanes

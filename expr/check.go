@@ -8,6 +8,7 @@ import (
 	"halation/api"
 	"halation/list"
 	"halation/num"
+	"halation/tree"
 )
 
 // IsName reports whether a string is a name.
@@ -54,14 +55,6 @@ func nodes(e api.Expr) iter.Seq[placed] {
 	}
 }
 
-// firstOf returns the first node of a node that is in post-order.
-func firstOf(e api.Expr, node int) int {
-	for len(e[node].Kids) > 0 {
-		node = e[node].Kids[0]
-	}
-	return node
-}
-
 // Check returns the first error of an expression, or OK.
 func Check(e api.Expr) api.Errno {
 	if err := list.FirstError(list.ErrorIf(len(e) == 0, api.ErrEmpty), list.ErrorIf(len(e) > api.MaxNodes, api.ErrMany)); err != api.OK {
@@ -74,7 +67,7 @@ search:
 		switch found = c.nodeError(n); {
 		case found != api.OK:
 			break search
-		case n.at == len(e)-1 && firstOf(e, n.at) != 0:
+		case n.at == len(e)-1 && tree.First(e, n.at) != 0:
 			found = api.ErrForm
 		}
 	}
@@ -126,7 +119,7 @@ func (c checker) inOrder(n placed) bool {
 			return false
 		}
 		if i > 0 {
-			end = firstOf(c.nodes, kid) - 1
+			end = tree.First(c.nodes, kid) - 1
 		}
 	}
 	return true

@@ -5,6 +5,7 @@ import (
 
 	"halation/api"
 	"halation/list"
+	"halation/tree"
 )
 
 func indexError(e api.Expr, node int) api.Errno {
@@ -16,7 +17,7 @@ func First(e api.Expr, node int) (int, api.Errno) {
 	if err := list.FirstError(Check(e), indexError(e, node)); err != api.OK {
 		return 0, err
 	}
-	return firstOf(e, node), api.OK
+	return tree.First(e, node), api.OK
 }
 
 // Sub returns the expression of a node.
@@ -25,17 +26,7 @@ func Sub(e api.Expr, node int) (api.Expr, api.Errno) {
 	if err != api.OK {
 		return nil, err
 	}
-	return shifted(e[first:node+1], -first), api.OK
-}
-
-// shifted returns a copy of an expression with the numbers of its kids raised.
-func shifted(e api.Expr, by int) api.Expr {
-	out := make(api.Expr, len(e))
-	copy(out, e)
-	for i, n := range e {
-		out[i] = renumbered(n, func(kid int) int { return kid + by })
-	}
-	return out
+	return tree.Moved(e[first:node+1], -first), api.OK
 }
 
 // renumbered returns a node with other numbers of its kids, that shares no memory with it.
@@ -92,7 +83,7 @@ func Replace(e api.Expr, node int, by api.Expr) (api.Expr, api.Errno) {
 	if err := list.FirstError(Check(e), indexError(e, node), Check(by)); err != api.OK {
 		return nil, err
 	}
-	first := firstOf(e, node)
+	first := tree.First(e, node)
 	r := rewriting{}
 	for n := range nodes(e) {
 		switch {

@@ -6,6 +6,7 @@ import (
 	"halation/api"
 	"halation/expr"
 	"halation/list"
+	"halation/tree"
 )
 
 // noted is a node with what is known of it.
@@ -157,20 +158,8 @@ func ofSame(op int, kids []noted) (Span, bool) {
 // areSame reports whether both kids of a node are the same expression.
 func (l *notes) areSame(n api.Node) bool {
 	e, a, b := l.expression, n.Kids[0], n.Kids[1]
-	first := a
-	for len(e[first].Kids) > 0 {
-		first = e[first].Kids[0]
-	}
-	apart := b - a // the second kid's nodes stand between both kids
-	if a-first+1 != apart {
-		return false
-	}
-	second := make(api.Expr, apart)
-	copy(second, e[a+1:b+1])
-	for i, n := range second {
-		second[i].Kids = list.Map(n.Kids, func(kid int) int { return kid - apart })
-	}
-	return expr.Same(e[first:a+1], second)
+	first, apart := tree.First(e, a), b-a // the second kid's nodes stand between both kids
+	return a-first+1 == apart && expr.Same(e[first:a+1], tree.Moved(e[a+1:b+1], -apart))
 }
 
 // computed returns the span of an operation or a conversion by the spans of its kids.

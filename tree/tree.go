@@ -1,0 +1,34 @@
+// Package tree has what layers do with the nodes of expressions that they have found to be right.
+package tree
+
+import (
+	"slices"
+
+	"halation/api"
+	"halation/list"
+)
+
+// First returns the first node of a node.
+func First(e api.Expr, node int) int {
+	for len(e[node].Kids) > 0 {
+		node = e[node].Kids[0]
+	}
+	return node
+}
+
+// Part returns the expression of a node.
+func Part(e api.Expr, node int) api.Expr {
+	first := First(e, node)
+	return Moved(e[first:node+1], -first)
+}
+
+// Moved returns a copy of an expression, that shares no memory with it, in which the numbers of the kids are raised.
+func Moved(e api.Expr, by int) api.Expr {
+	out := make(api.Expr, len(e))
+	copy(out, e)
+	for i, n := range e {
+		out[i].Kids = list.Map(n.Kids, func(kid int) int { return kid + by })
+		out[i].Picks = slices.Clone(n.Picks)
+	}
+	return out
+}

@@ -1,0 +1,50 @@
+package tree_test
+
+import (
+	"testing"
+
+	"halation/api"
+	"halation/expr"
+	"halation/lang"
+	"halation/tree"
+)
+
+func parsed(t *testing.T, s string) api.Expr {
+	t.Helper()
+	e, at, err := lang.Parse(s, nil)
+	if err != api.OK {
+		t.Fatal("Parse", s, at, err)
+	}
+	return e
+}
+
+func TestParts(t *testing.T) {
+	for _, s := range []string{"x", "(x + 3) * f.i32(y, x - 1)", "select(x < y, x, y / 2)", "shuffle(ramp(x, 2, 4), 3, 0)"} {
+		e := parsed(t, s)
+		for node := range e {
+			first, err := expr.First(e, node)
+			if got := tree.First(e, node); got != first || err != api.OK {
+				t.Error("First", s, node, got, first)
+			}
+			part, err := expr.Sub(e, node)
+			if got := tree.Part(e, node); !expr.Same(got, part) || err != api.OK {
+				t.Error("Part", s, node, got, part)
+			}
+		}
+	}
+}
+
+func TestMoved(t *testing.T) {
+	e := parsed(t, "shuffle(ramp(x, 2, 4), 3, 0)")
+	out := tree.Moved(e, 5)
+	if out[2].Kids[0] != 5 || out[2].Kids[1] != 6 || out[3].Kids[0] != 7 || len(out) != len(e) {
+		t.Error("Moved", out)
+	}
+	out[3].Kids[0], out[3].Picks[1], out[0].Name = 9, 9, "y"
+	if !expr.Same(e, parsed(t, "shuffle(ramp(x, 2, 4), 3, 0)")) {
+		t.Error("Moved shares memory", e)
+	}
+	if out := tree.Moved(nil, 1); len(out) != 0 {
+		t.Error("Moved of nothing", out)
+	}
+}
