@@ -21,22 +21,26 @@ type Bound struct {
 	Expr api.Expr
 }
 
-// head is what the nodes of a pattern and of an expression have in common.
+// head is what the nodes of a pattern and of an expression have in common, but for Picks.
 type head struct {
-	op, kind int
-	name     string
-	bits     uint64
-	kids     int
+	op, kind, lanes int
+	name            string
+	bits            uint64
+	kids            int
 }
 
 func headOf(n api.Node) head {
-	return head{n.Op, n.Kind, n.Name, n.Bits, len(n.Kids)}
+	return head{n.Op, n.Kind, n.Lanes, n.Name, n.Bits, len(n.Kids)}
 }
 
-// same reports whether nodes at one place of two expressions are equal. In post-order the numbers of the kids follow
-// from how many there are.
+// alike reports whether nodes at one place of two expressions, or of a pattern and an expression, are equal. In
+// post-order the numbers of the kids follow from how many there are.
+func alike(n, m api.Node) bool {
+	return headOf(n) == headOf(m) && slices.Equal(n.Picks, m.Picks)
+}
+
 func (n placed) same(m placed) bool {
-	return headOf(n.Node) == headOf(m.Node) && n.Lanes == m.Lanes && slices.Equal(n.Picks, m.Picks)
+	return alike(n.Node, m.Node)
 }
 
 // matching is an expression and the nodes for which wildcards stand.
@@ -65,14 +69,15 @@ func (m matching) part(node int) []placed {
 	return slices.Collect(nodes(m.e[tree.First(m.e, node) : node+1]))
 }
 
-// walk goes over the nodes of a pattern and of an expression at once, as long as they have the same heads, and bind
+// walk goes over the nodes of a pattern and of an expression at once, as long as they have equal nodes, and bind
 // takes the wildcards with what is at their places.
 func (m matching) walk(pattern api.Expr, at, node int, bind func(api.Node, int) bool) bool {
 	p, n := pattern[at], m.e[node]
 	if isWildcard(p) {
 		return bind(p, node)
 	}
-	if headOf(p) != headOf(n) {
+	// Lanes and Picks, too: filled, the pattern has to be the expression again
+	if !alike(p, n) {
 		return false
 	}
 	for i := range len(p.Kids) {

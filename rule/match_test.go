@@ -25,7 +25,7 @@ func matches(pattern, e tree, found map[string]tree) bool {
 		return !ok || before.equal(e)
 	}
 	p, n := pattern.node, e.node
-	if p.Op != n.Op || p.Kind != n.Kind || p.Name != n.Name || p.Bits != n.Bits || len(pattern.kids) != len(e.kids) {
+	if p.Op != n.Op || p.Kind != n.Kind || p.Name != n.Name || p.Bits != n.Bits || len(pattern.kids) != len(e.kids) || p.Lanes != n.Lanes || !slices.Equal(p.Picks, n.Picks) {
 		return false
 	}
 	for i := range pattern.kids {
@@ -163,6 +163,7 @@ func TestMatchExamples(t *testing.T) {
 		{"@x.i32 - @x.i32", "ramp(i, 1, 4) - ramp(i, 1, 4)", ""},
 		{"@c.i32", "7", "c 7"}, {"@c.i32", "i", ""}, {"@n.i32", "i", "n i"}, {"@n.i32", "7", ""}, {"@n.i32", "i + 7", "n i + 7"}, {"@n.i32", "7 + 7", "n 7 + 7"}, {"@d.u8", "7", ""}, {"@x.i32", "7", "x 7"}, {"@b.i32", "7", "b 7"}, {"@y.i32", "@y.i32", "y @y.i32"},
 		{"@x.i32", "ramp(i, 1, 4)", ""}, {"!@x.i32", "!ramp(i, 1, 4)", ""}, {"shuffle(@x.i32, 0)", "shuffle(ramp(i, 1, 4), 0)", ""}, {"shuffle(@x.i32, 0)", "shuffle(i, 0)", "x i"},
+		{"shuffle(shuffle(@x.i32, 0), 0)", "shuffle(shuffle(i, 0), 0)", "x i"}, {"shuffle(shuffle(@x.i32, 0), 0)", "shuffle(shuffle(i, 0, 0), 0)", ""}, {"shuffle(shuffle(@x.i32, 0), 0)", "shuffle(shuffle(i, 0, 0), 1)", ""}, {"shuffle(@x.i32 + 1, 0)", "shuffle(i + 1, 0)", "x i"},
 		{"@x.i32 + 0", "i + 0", "x i"}, {"@x.i32 + 0", "i + 1", ""}, {"@x.i32 + 0", "i - 0", ""}, {"@x.i32 + 0", "i", ""}, {"3", "3", "-"}, {"3", "4", ""}, {"3", "3u8", ""}, {"true", "true", "-"},
 		{"u8(@x.i32)", "u8(i)", "x i"}, {"u8(@x.i32)", "sat_u8(i)", ""}, {"u8(@x.i32)", "u16(i)", ""}, {"u8(@x.i32)", "u8(@i.i64)", ""},
 		{"select(@b.bool, @x.u8, @y.u8)", "select(i < j, @y.u8, @x.u8)", "b i < j; x @y.u8; y @x.u8"},
@@ -378,6 +379,10 @@ func TestApplyOwn(t *testing.T) {
 		{own("!!!(@x + @c)", "(@x + @x) % @c", "", api.I32), "!!!(3 + 5)", ""},
 		{own("!!!(@x + @x + @c)", "(@x + @x) % (@c * @c)", "", api.I32), "!!!(3 + 3 + 5)", "(3 + 3) % 25"},
 		{own("select(@b, @c, @x)", "select(!@b, @x, @c)", "", api.I32), "select(true, 1, 2)", ""},
+		// a pattern has one lane everywhere
+		{own("shuffle(shuffle(@x, 0), 0)", "@x", "", api.I32), "shuffle(shuffle(i, 0), 0)", "i"},
+		{own("shuffle(shuffle(@x, 0), 0)", "@x", "", api.I32), "shuffle(shuffle(i, 0, 0), 0)", ""},
+		{own("shuffle(shuffle(@x, 0), 0)", "@x", "", api.I32), "shuffle(shuffle(i, 0, 0), 1)", ""},
 	} {
 		e := parsed(t, x.e)
 		out, ok, err := rule.Apply(x.r, e, len(e)-1)
