@@ -109,20 +109,12 @@ func Match(pattern, e api.Expr) ([]Bound, bool, api.Errno) {
 
 // filled returns a pattern with other expressions in place of its wildcards, as far as there are some.
 func filled(pattern api.Expr, by func(n api.Node) (api.Expr, bool)) api.Expr {
-	var out api.Expr
-	ends := make([]int, len(pattern)) // where the expressions of the pattern's nodes end
-	for n := range nodes(pattern) {
-		e, ok := by(n.Node)
-		if ok && isWildcard(n.Node) {
-			out = append(out, tree.Moved(e, len(out))...)
-		} else {
-			n.Kids = list.Map(n.Kids, func(kid int) int { return ends[kid] })
-			n.Picks = slices.Clone(n.Picks)
-			out = append(out, n.Node)
+	return tree.Replaced(pattern, func(n api.Node) (api.Expr, bool) {
+		if !isWildcard(n) {
+			return nil, false
 		}
-		ends[n.at] = len(out) - 1
-	}
-	return out
+		return by(n)
+	})
 }
 
 // given finds what wildcards stand for.

@@ -32,3 +32,21 @@ func Moved(e api.Expr, by int) api.Expr {
 	}
 	return out
 }
+
+// Replaced returns a copy of an expression, that shares no memory with it, in which copies of other ones stand in place
+// of the nodes for which by has one. All of them are replaced at once; they have no kids.
+func Replaced(e api.Expr, by func(n api.Node) (api.Expr, bool)) api.Expr {
+	var out api.Expr
+	ends := make([]int, len(e)) // where the expressions of the nodes end
+	for i, n := range e {
+		if other, ok := by(n); ok {
+			out = append(out, Moved(other, len(out))...)
+		} else {
+			n.Kids = list.Map(n.Kids, func(kid int) int { return ends[kid] })
+			n.Picks = slices.Clone(n.Picks)
+			out = append(out, n)
+		}
+		ends[i] = len(out) - 1
+	}
+	return out
+}

@@ -48,3 +48,34 @@ func TestMoved(t *testing.T) {
 		t.Error("Moved of nothing", out)
 	}
 }
+
+func TestReplaced(t *testing.T) {
+	e := parsed(t, "(x + 3) * f.i32(y, x) - shuffle(ramp(y, 2, 4), 3)")
+	by := map[string]api.Expr{"x": parsed(t, "y - 1"), "y": parsed(t, "shuffle(ramp(x, 1, 2), 1)")}
+	find := func(n api.Node) (api.Expr, bool) {
+		other, ok := by[n.Name]
+		return other, ok && n.Op == api.EVar
+	}
+	want := "(y - 1 + 3) * f.i32(shuffle(ramp(x, 1, 2), 1), y - 1) - shuffle(ramp(shuffle(ramp(x, 1, 2), 1), 2, 4), 3)"
+	out := tree.Replaced(e, find)
+	if !expr.Same(out, parsed(t, want)) {
+		t.Error("Replaced", out)
+	}
+	for _, l := range []api.Expr{out, tree.Replaced(e, func(api.Node) (api.Expr, bool) { return nil, false })} {
+		for i := range l {
+			for k := range l[i].Kids {
+				l[i].Kids[k] = 99
+			}
+			for k := range l[i].Picks {
+				l[i].Picks[k] = 99
+			}
+			l[i].Name = "z"
+		}
+	}
+	if !expr.Same(tree.Replaced(e, find), parsed(t, want)) {
+		t.Error("Replaced shares memory", e, by)
+	}
+	if out := tree.Replaced(nil, find); len(out) != 0 {
+		t.Error("Replaced of nothing", out)
+	}
+}
