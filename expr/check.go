@@ -60,7 +60,7 @@ func Check(e api.Expr) api.Errno {
 	if err := list.FirstError(list.ErrorIf(len(e) == 0, api.ErrEmpty), list.ErrorIf(len(e) > api.MaxNodes, api.ErrMany)); err != api.OK {
 		return err
 	}
-	c := checker{e}
+	c := checker{nodes: e, forms: forms()}
 	found := api.OK
 search:
 	for n := range nodes(e) {
@@ -84,17 +84,17 @@ func Kind(e api.Expr) (int, int, api.Errno) {
 }
 
 // checker is an expression whose nodes are examined one by one: those before the one that is examined are right.
-type checker struct{ nodes api.Expr }
-
-func (c checker) node(i int) api.Node {
-	return c.nodes[i]
+type checker struct {
+	nodes api.Expr
+	forms [api.Ops]form
+	kids  []api.Node // those of the node that is examined
 }
 
-func (c checker) nodeError(n placed) api.Errno {
+func (c *checker) nodeError(n placed) api.Errno {
 	if !isOp(n.Op) || num.CheckKind(n.Kind) != api.OK {
 		return api.ErrKind
 	}
-	f := formOf(n.Op)
+	f := &c.forms[n.Op]
 	switch {
 	case f.named && !IsName(n.Name), !f.named && n.Name != "":
 		return api.ErrName
@@ -105,14 +105,17 @@ func (c checker) nodeError(n placed) api.Errno {
 	case !c.inOrder(n):
 		return api.ErrOrder
 	}
-	kids := list.Map(n.Kids, c.node)
+	c.kids = c.kids[:0]
+	for _, kid := range n.Kids {
+		c.kids = append(c.kids, c.nodes[kid])
+	}
 	return list.FirstError(
-		list.ErrorIf(!f.kinds(n.Node, kids), api.ErrType),
-		list.ErrorIf(!f.lanes(n.Node, kids), api.ErrVector))
+		list.ErrorIf(!f.kinds(n.Node, c.kids), api.ErrType),
+		list.ErrorIf(!f.lanes(n.Node, c.kids), api.ErrVector))
 }
 
 // inOrder reports whether the kids' expressions end just before the node, and each one just before the next.
-func (c checker) inOrder(n placed) bool {
+func (c *checker) inOrder(n placed) bool {
 	end := n.at - 1
 	for i, kid := range slices.Backward(n.Kids) {
 		if kid < 0 || kid != end {

@@ -19,9 +19,11 @@ type form struct {
 
 // formOf returns the form of an Op.
 func formOf(op int) form {
-	if op > api.EAdd && op <= api.ELe { // the operations with two kids have one form
-		op = api.EAdd
-	}
+	return forms()[op]
+}
+
+// forms returns the forms of all Ops.
+func forms() [api.Ops]form {
 	table := [api.Ops]form{
 		api.EConst:     {bits: valueBits, kinds: anyKind, lanes: evenLanes},
 		api.EVar:       {named: true, bits: noBits, kinds: coordinateKind, lanes: evenLanes},
@@ -39,7 +41,10 @@ func formOf(op int) form {
 		api.EShuffle:   {kids: [2]int{1, 1}, bits: noBits, kinds: sameKind, lanes: pickedLanes},
 		api.EReduce:    {kids: [2]int{1, 1}, bits: reducingOp, kinds: reducedKinds, lanes: reducedLanes},
 	}
-	return table[op]
+	for op := api.EAdd + 1; op <= api.ELe; op++ { // the operations with two kids have one form
+		table[op] = table[api.EAdd]
+	}
+	return table
 }
 
 // isOp reports whether there is such an Op.

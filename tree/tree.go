@@ -50,3 +50,9 @@ func Replaced(e api.Expr, by func(n api.Node) (api.Expr, bool)) api.Expr {
 	}
 	return out
 }
+
+// Above returns an operation with two expressions of the kind I32. It may have too many nodes.
+func Above(op int, a, b api.Expr) api.Expr {
+	kids := []int{len(a) - 1, len(a) + len(b) - 1}
+	return slices.Concat(Moved(a, 0), Moved(b, len(a)), api.Expr{{Op: op, Kind: api.I32, Lanes: 1, Kids: kids}})
+}

@@ -79,3 +79,15 @@ func TestReplaced(t *testing.T) {
 		t.Error("Replaced of nothing", out)
 	}
 }
+
+func TestAbove(t *testing.T) {
+	a, b := parsed(t, "x * 2"), parsed(t, "shuffle(ramp(y, 2, 4), 3)")
+	out := tree.Above(api.ESub, a, b)
+	if !expr.Same(out, parsed(t, "x * 2 - shuffle(ramp(y, 2, 4), 3)")) {
+		t.Error("Above", out)
+	}
+	out[2].Kids[0], out[5].Kids[0], out[6].Picks[0] = 9, 9, 9
+	if !expr.Same(a, parsed(t, "x * 2")) || !expr.Same(b, parsed(t, "shuffle(ramp(y, 2, 4), 3)")) {
+		t.Error("Above shares memory", a, b)
+	}
+}
