@@ -222,6 +222,8 @@ func TestFolds(t *testing.T) {
 		{"func f(x) i32 = x\nfunc out(x) i32 = f(65 * x) + f(65 * x + 1)", base + "out.0 parallel x", box(0, 64), "f", "x", 0, 0, nil, api.ErrRace, api.ErrRace}, {"func f(x) i32 = x\nfunc out(x) i32 = f(65 * x) + f(65 * x + 1)", base + "f memoize", box(0, 64), "f", "x", 0, 0, nil, api.ErrLarge, api.ErrLarge},
 		// a dimension along which nothing slides
 		{plane, "f compute_at out y; f store_root", box(0, 8, 0, 4), "f", "x", 7, 8, []int{0}, api.OK, api.OK}, {plane, "f compute_at out y; f store_root", box(0, 8, 0, 4), "f", "x", 8, 8, nil, api.OK, api.OK},
+		// what is stored anew for each value of a loop outside
+		{plane, "f compute_at out y; f store_at out xo; out.0 split x xo xi 2 exact; out.0 reorder xi y xo", box(3, 8, 0, 4), "f", "x", 2, 2, nil, api.OK, api.OK}, {plane, "f compute_at out y; f store_at out xo; out.0 split x xo xi 2 exact; out.0 reorder xi y xo", box(3, 8, 0, 4), "f", "x", 1, 2, []int{0, 0}, api.OK, api.OK}, {plane, "f compute_at out y; f store_at out xo; out.0 split x xo xi 2 exact; out.0 reorder xi y xo", box(3, 8, 0, 4), "f", "y", 2, 3, []int{0, 0}, api.OK, api.OK},
 		// gaps between what is computed
 		{"func f(x) i32 = x\nfunc out(x) i32 = f(3 * x)", base + "f fold x 1", box(0, 4), "f", "x", 1, 1, nil, api.OK, api.OK},
 		{"func f(x) i32 = x\nfunc out(x) i32 = f(x)", base + "f fold x 1", box(0, 0), "f", "x", 1, 1, nil, api.OK, api.OK},
