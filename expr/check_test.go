@@ -387,6 +387,7 @@ func TestCheckLanes(t *testing.T) {
 			{append(copied(spread), vector(api.EBroadcast, api.I32, 2, 1)), api.ErrVector},
 			{append(copied(spread), integer(1)[0], vector(api.EAdd, api.I32, lanes, 1, 2)), api.ErrVector},
 			{append(api.Expr{integer(1)[0]}, vector(api.EShuffle, api.I32, 1, 0)), api.ErrVector},
+			{append(api.Expr{integer(1)[0]}, node(api.EReduce, api.I32, "", api.EAdd, 0)), api.ErrVector},
 		} {
 			if err := expr.Check(x.e); err != x.want {
 				t.Errorf("%d lanes, %d: %v, want %v", lanes, i, err, x.want)
