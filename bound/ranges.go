@@ -125,9 +125,18 @@ func params(p api.Pipeline) knowledge {
 	return out
 }
 
-// with adds what is known of a variable.
-func (l knowledge) with(name string, e ends) knowledge {
-	return append(slices.Clip(l), span.Known{Op: api.EVar, Name: name, Span: e.cut()})
+// add adds what is known of a variable.
+func (l *knowledge) add(name string, e ends) {
+	*l = append(*l, span.Known{Op: api.EVar, Name: name, Span: e.cut()})
+}
+
+// along returns what is known of the variables of a path, too.
+func (l knowledge) along(path []Loop) knowledge {
+	out := slices.Clone(l)
+	for i, loop := range path {
+		out.add(site.Variable(i), ends{0, loop.Extent - 1})
+	}
+	return out
 }
 
 // find returns the range of an expression for a site.

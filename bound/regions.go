@@ -178,7 +178,7 @@ func (in *inference) hulls(from, op int, name string, outer []Loop, check func(s
 		if err != api.OK {
 			return nil, err
 		}
-		found, err := x.known(in.params).find(at, outer)
+		found, err := x.known.find(at, outer)
 		if err := list.FirstError(err, check(found)); err != api.OK {
 			return nil, err
 		}
@@ -272,14 +272,14 @@ func (in *inference) wider(r *region, pure [][]bool, dim int) (stretch, api.Errn
 
 // inUpdate returns what is known of the variables of an update, by the ranges that there are by then.
 func (in *inference) inUpdate(r *region, u api.Update, pure []bool) knowledge {
-	out := in.params
+	out := slices.Clone(in.params)
 	for i, name := range r.Args {
 		if pure[i] {
-			out = out.with(name, r.ranges[i].flat().ends)
+			out.add(name, r.ranges[i].flat().ends)
 		}
 	}
 	for _, a := range u.Domain {
-		out = out.with(a.Name, endsOf(a.Range))
+		out.add(a.Name, endsOf(a.Range))
 	}
 	return out
 }
@@ -310,7 +310,8 @@ func (in *inference) nest(r *region) api.Errno {
 		if err != api.OK {
 			return err
 		}
-		s := stage{Update: u, Nest: n, path: pathOf(r.site, r.Name, number, n)}
+		path := pathOf(r.site, r.Name, number, n)
+		s := stage{Update: u, Nest: n, path: path, known: in.params.along(path)}
 		s.coordinates = s.coordinatesOf(r.mins())
 		r.stages = append(r.stages, s)
 	}

@@ -9,7 +9,6 @@ import (
 	"halation/expr"
 	"halation/list"
 	"halation/nest"
-	"halation/site"
 	"halation/tree"
 )
 
@@ -25,6 +24,7 @@ type stage struct {
 	api.Update
 	nest.Nest
 	path        []Loop
+	known       knowledge // what is known of the path's variables, and of the parameters
 	coordinates map[string]coordinate
 }
 
@@ -91,14 +91,6 @@ func (s stage) upTo(loop string) ([]Loop, bool) {
 // begins reports whether a path begins with a site.
 func (s stage) begins(outer []Loop) bool {
 	return len(s.path) >= len(outer) && slices.Equal(s.path[:len(outer)], outer)
-}
-
-// known returns what is known of the variables of the path, beside the parameters.
-func (s stage) known(l knowledge) knowledge {
-	for i, loop := range s.path {
-		l = l.with(site.Variable(i), ends{0, loop.Extent - 1})
-	}
-	return l
 }
 
 // coordinatesOf returns what the variables of a stage are, when its nest and its path are there. Mins are those of the
