@@ -9,21 +9,16 @@ import (
 
 // above returns a node above some expressions, which become its kids. It has the lanes of the first of them.
 func above(n api.Node, below ...api.Expr) api.Expr {
-	var out api.Expr
 	n.Lanes = 1
-	for i, e := range below {
-		out = append(out, tree.Moved(e, len(out))...)
-		n.Kids = append(n.Kids, len(out)-1)
-		if i == 0 {
-			n.Lanes = out[len(out)-1].Lanes
-		}
+	if len(below) > 0 {
+		n.Lanes = tree.Whole(below[0]).Lanes
 	}
-	return append(out, n)
+	return tree.Over(n, below...)
 }
 
 // wholeKind returns the kind of a right expression.
 func wholeKind(e api.Expr) int {
-	return e[len(e)-1].Kind
+	return tree.Whole(e).Kind
 }
 
 // constant returns a right value as an expression.

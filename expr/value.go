@@ -6,6 +6,7 @@ import (
 	"halation/api"
 	"halation/list"
 	"halation/num"
+	"halation/tree"
 )
 
 const maxBindings = 64
@@ -85,7 +86,7 @@ func (s scope) lanesOf(n api.Node, kids [][]api.Value) ([]api.Value, api.Errno) 
 	}
 	out := make([]api.Value, n.Lanes)
 	for lane := range n.Lanes {
-		out[lane] = computed(n, list.Map(kids, func(kid []api.Value) api.Value { return kid[lane] }))
+		out[lane] = tree.Computed(n, list.Map(kids, func(kid []api.Value) api.Value { return kid[lane] }))
 	}
 	return out, api.OK
 }
@@ -118,24 +119,6 @@ func isComputed(op int) bool {
 	return op >= api.EAdd && op <= api.ESelect
 }
 
-// computed returns the value of one lane of an operation, a cast or a select that Check has found right.
-func computed(n api.Node, kids []api.Value) api.Value {
-	var v api.Value
-	switch n.Op {
-	case api.ENot:
-		v, _ = num.Not(kids[0])
-	case api.ECast:
-		v, _ = num.Cast(n.Kind, kids[0])
-	case api.ESat:
-		v, _ = num.Sat(n.Kind, kids[0])
-	case api.ESelect:
-		v, _ = num.Select(kids[0], kids[1], kids[2])
-	default:
-		v = applied(n.Op, kids[0], kids[1])
-	}
-	return v
-}
-
 // Fold returns an expression with its constants computed.
 func Fold(e api.Expr) (api.Expr, api.Errno) {
 	if err := Check(e); err != api.OK {
@@ -147,7 +130,7 @@ func Fold(e api.Expr) (api.Expr, api.Errno) {
 		start := len(r.out) - len(n.Kids)
 		kids := r.out[start:]
 		if isComputed(n.Op) && !slices.ContainsFunc(kids, func(kid api.Node) bool { return kid.Op != api.EConst }) {
-			v := computed(n.Node, list.Map(kids, valueOf))
+			v := tree.Computed(n.Node, list.Map(kids, valueOf))
 			r.out = r.out[:start]
 			r.putWhole(api.Expr{constant(v)})
 		} else {

@@ -5,7 +5,7 @@ import (
 
 	"halation/api"
 	"halation/list"
-	"halation/num"
+	"halation/param"
 )
 
 // rewritten returns a copy of a pipeline, which shares no memory with it, with each expression rewritten.
@@ -177,7 +177,7 @@ func Put(p api.Pipeline, l []api.Value) (api.Pipeline, api.Errno) {
 		return api.Pipeline{}, err
 	}
 	for i, v := range l {
-		if err := valueError(v, p.Params[i]); err != api.OK {
+		if err := param.ValueError(v, p.Params[i]); err != api.OK {
 			return api.Pipeline{}, err
 		}
 	}
@@ -190,18 +190,4 @@ func Put(p api.Pipeline, l []api.Value) (api.Pipeline, api.Errno) {
 	})
 	out.Params = nil
 	return out, api.OK
-}
-
-// valueError returns the error of a value for a parameter.
-func valueError(v api.Value, param api.Param) api.Errno {
-	err := list.FirstError(num.CheckValue(v), list.ErrorIf(v.Kind != param.Kind, api.ErrType))
-	if err != api.OK {
-		return err
-	}
-	if v.Kind == api.F32 { // its bounds are so small that they are floats
-		x, _ := num.Float(v)
-		return list.ErrorIf(x < float32(param.Low) || x > float32(param.High), api.ErrRange)
-	}
-	n, err := num.Int(v) // a number that is too large for an int64 is above all bounds
-	return list.ErrorIf(err != api.OK || n < param.Low || n > param.High, api.ErrRange)
 }

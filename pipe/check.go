@@ -1,29 +1,14 @@
 package pipe
 
 import (
-	"math"
 	"slices"
 
 	"halation/api"
 	"halation/expr"
 	"halation/list"
 	"halation/num"
+	"halation/param"
 )
-
-// bounds has the least and the greatest number that may bound the parameters of a kind. Two equal ones say that there
-// are no parameters of the kind.
-var bounds = [api.Kinds][2]int64{
-	api.Bool: {0, 1},
-	api.U8:   {0, math.MaxUint8},
-	api.U16:  {0, math.MaxUint16},
-	api.U32:  {0, math.MaxUint32},
-	api.U64:  {0, math.MaxInt64},
-	api.I8:   {math.MinInt8, math.MaxInt8},
-	api.I16:  {math.MinInt16, math.MaxInt16},
-	api.I32:  {math.MinInt32, math.MaxInt32},
-	api.I64:  {math.MinInt64, math.MaxInt64},
-	api.F32:  {-1 << 24, 1 << 24},
-}
 
 // finding is the first error of something, and its place; it is the zero value if there is none.
 type finding struct {
@@ -75,8 +60,8 @@ func (c checker) headError() api.Errno {
 	if len(c.Params) > api.MaxParams {
 		return api.ErrMany
 	}
-	for i, param := range c.Params {
-		if err := list.FirstError(c.names.add(param.Name, named{AParam, i}), paramError(param)); err != api.OK {
+	for i, x := range c.Params {
+		if err := list.FirstError(c.names.add(x.Name, named{AParam, i}), param.Error(x)); err != api.OK {
 			return err
 		}
 	}
@@ -85,18 +70,6 @@ func (c checker) headError() api.Errno {
 
 func dimsError(dims int) api.Errno {
 	return list.ErrorIf(dims < 1 || dims > api.MaxDims, api.ErrDims)
-}
-
-// paramError returns the error of a parameter whose name is right.
-func paramError(param api.Param) api.Errno {
-	if num.CheckKind(param.Kind) != api.OK || bounds[param.Kind] == [2]int64{} {
-		return api.ErrKind
-	}
-	ends := bounds[param.Kind]
-	isOutside := func(n int64) bool { return n < ends[0] || n > ends[1] }
-	return list.FirstError(
-		list.ErrorIf(isOutside(param.Low) || isOutside(param.High), api.ErrRange),
-		list.ErrorIf(param.Low > param.High, api.ErrOrder))
 }
 
 // function finds the first error of a function.

@@ -36,7 +36,7 @@ func wrongSpans(l []span.Span) api.Errno {
 	}
 	for _, s := range l {
 		switch {
-		case outside(s.Low, -(1<<20), 1<<20), outside(s.High, -(1<<20), 1<<20):
+		case outside(s.Low, -(1 << 20), 1<<20), outside(s.High, -(1 << 20), 1<<20):
 			return api.ErrRange
 		case s.Low > s.High:
 			return api.ErrOrder
@@ -119,7 +119,7 @@ func wrongStep(c prove.Claim, p prove.Proof, at int) api.Errno {
 		return api.ErrForm
 	case outside(s.Variable, 0, len(c.Spans)-1):
 		return api.ErrUnknown
-	case outside(s.Bound, -(1<<20), 1<<20):
+	case outside(s.Bound, -(1 << 20), 1<<20):
 		return api.ErrRange
 	case outside(s.Kids[0], 0, at-1), outside(s.Kids[1], 0, at-1):
 		return api.ErrOrder

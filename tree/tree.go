@@ -6,7 +6,13 @@ import (
 
 	"halation/api"
 	"halation/list"
+	"halation/num"
 )
+
+// Whole returns the last node of an expression, which is the whole.
+func Whole(e api.Expr) api.Node {
+	return e[len(e)-1]
+}
 
 // First returns the first node of a node.
 func First(e api.Expr, node int) int {
@@ -51,8 +57,36 @@ func Replaced(e api.Expr, by func(n api.Node) (api.Expr, bool)) api.Expr {
 	return out
 }
 
+// Over returns a node with some expressions as its kids, in their order. It may have too many nodes, and kinds that do not fit.
+func Over(n api.Node, kids ...api.Expr) api.Expr {
+	var out api.Expr
+	n.Kids, n.Picks = nil, slices.Clone(n.Picks)
+	for _, e := range kids {
+		out = append(out, Moved(e, len(out))...)
+		n.Kids = append(n.Kids, len(out)-1)
+	}
+	return append(out, n)
+}
+
 // Above returns an operation with two expressions of the kind I32. It may have too many nodes.
 func Above(op int, a, b api.Expr) api.Expr {
-	kids := []int{len(a) - 1, len(a) + len(b) - 1}
-	return slices.Concat(Moved(a, 0), Moved(b, len(a)), api.Expr{{Op: op, Kind: api.I32, Lanes: 1, Kids: kids}})
+	return Over(api.Node{Op: op, Kind: api.I32, Lanes: 1}, a, b)
+}
+
+// Computed returns the value of one lane of an operation, a cast or a select, by those of its kids.
+func Computed(n api.Node, kids []api.Value) api.Value {
+	var v api.Value
+	switch n.Op {
+	case api.ENot:
+		v, _ = num.Not(kids[0])
+	case api.ECast:
+		v, _ = num.Cast(n.Kind, kids[0])
+	case api.ESat:
+		v, _ = num.Sat(n.Kind, kids[0])
+	case api.ESelect:
+		v, _ = num.Select(kids[0], kids[1], kids[2])
+	default:
+		v, _ = num.Apply(n.Op, kids[0], kids[1])
+	}
+	return v
 }

@@ -91,3 +91,40 @@ func TestAbove(t *testing.T) {
 		t.Error("Above shares memory", a, b)
 	}
 }
+
+func TestOver(t *testing.T) {
+	a, b, c := parsed(t, "x < 2"), parsed(t, "y * 3"), parsed(t, "shuffle(ramp(y, 2, 4), 3)")
+	n := api.Node{Op: api.ESelect, Kind: api.I32, Lanes: 1, Kids: []int{7}}
+	out := tree.Over(n, a, b, c)
+	if !expr.Same(out, parsed(t, "select(x < 2, y * 3, shuffle(ramp(y, 2, 4), 3))")) || n.Kids[0] != 7 {
+		t.Error("Over", out)
+	}
+	out[2].Kids[0], out[5].Kids[0], out[9].Picks[0] = 9, 9, 9
+	if !expr.Same(a, parsed(t, "x < 2")) || !expr.Same(b, parsed(t, "y * 3")) || !expr.Same(c, parsed(t, "shuffle(ramp(y, 2, 4), 3)")) {
+		t.Error("Over shares memory", a, b, c)
+	}
+	picks := api.Node{Op: api.EShuffle, Kind: api.I32, Lanes: 2, Picks: []int{1, 0}}
+	out = tree.Over(picks, parsed(t, "ramp(x, 1, 2)"))
+	out[3].Picks[0] = 9
+	if picks.Picks[0] != 1 || len(tree.Over(api.Node{Op: api.EVar, Name: "x"})) != 1 {
+		t.Error("Over shares the picks", picks)
+	}
+}
+
+func TestComputed(t *testing.T) {
+	for _, s := range []string{"7 + 5", "-7 / 2", "3 < 4", "!5", "!true", "u8(300)", "sat_u8(300)", "f32(3)", "select(true, 4, 5)", "select(1 < 0, 4, 5)", "dist(-3i8, 4i8)", "c64(1p0,1p0) * c64(3p0,-1p0)", "3p-1f32 * 1p1f32"} {
+		e := parsed(t, s)
+		if s == "select(1 < 0, 4, 5)" {
+			e, _ = expr.Replace(e, 2, parsed(t, "false"))
+		}
+		whole := tree.Whole(e)
+		var kids []api.Value
+		for _, kid := range whole.Kids {
+			kids = append(kids, api.Value{Kind: e[kid].Kind, Bits: e[kid].Bits})
+		}
+		want, err := expr.Eval(e, nil)
+		if v := tree.Computed(whole, kids); v != want[0] || err != api.OK {
+			t.Error("Computed", s, v, want)
+		}
+	}
+}

@@ -71,7 +71,7 @@ func TestAnyStorage(t *testing.T) {
 			x.Site = append(x.Site, bound.Loop{Extent: number(4)})
 			values = append(values, number(m.Intn(4)))
 		}
-		for range number(1 + m.Intn(3)) & 3 {
+		for range number(1+m.Intn(3)) & 3 {
 			d := window.Dim{Min: affine.Form{Const: number(m.Intn(9))}, Extent: number(20 + m.Intn(9)), Fold: number(m.Intn(9))}
 			if m.Intn(3) == 0 {
 				name := []string{"s0", "s1", "s2", "x", ""}[m.Intn(5)]
