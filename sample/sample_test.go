@@ -7,7 +7,9 @@ import (
 
 	"halation/api"
 	"halation/image"
+	"halation/loop"
 	"halation/pipe"
+	"halation/run"
 	"halation/sample"
 	"halation/sched"
 )
@@ -51,5 +53,35 @@ func TestMade(t *testing.T) {
 	}
 	if updates < 100 || wrong < 100 || wrong == 300 {
 		t.Error("rare", updates, wrong)
+	}
+}
+
+func TestPrograms(t *testing.T) {
+	outcomes, wrong := map[int]int{}, 0
+	for seed := range int64(400) {
+		m := sample.Maker{Picker: rand.New(rand.NewSource(seed))}
+		again := sample.Maker{Picker: rand.New(rand.NewSource(seed))}
+		p := m.Program()
+		if _, err := loop.Check(p); err != api.OK || !reflect.DeepEqual(p, again.Program()) {
+			t.Fatal(seed, p, err)
+		}
+		g := m.Given(p)
+		r, err := run.Run(p, g, nil, 100000)
+		if err != api.OK {
+			t.Fatal(seed, err)
+		}
+		outcomes[r.Outcome]++
+		before, _ := loop.Print(p)
+		if _, err := loop.Check(m.SpoiltProgram(p)); err != api.OK {
+			wrong++
+		}
+		if after, err := loop.Print(p); after != before || err != api.OK {
+			t.Fatal("SpoiltProgram changes what it is given", seed)
+		}
+	}
+	for outcome := run.Done; outcome <= run.Uneven; outcome++ {
+		if outcomes[outcome] == 0 || outcomes[run.Done] < 200 || wrong < 200 || wrong == 400 {
+			t.Error("rare", outcomes, wrong)
+		}
 	}
 }
