@@ -27,6 +27,16 @@ func starts() map[string]api.Stmt {
 	return out
 }
 
+// firstWord returns the word with which a line begins, and what stands behind the space after it.
+func firstWord(line string) (word, rest string) {
+	for i, r := range line {
+		if r == ' ' {
+			return line[:i], line[i+1:]
+		}
+	}
+	return line, ""
+}
+
 // The following ones read what stands behind the first word of a statement, and return the texts of its expressions.
 // What is too much, or not there, is found when the line is written again.
 
@@ -39,8 +49,8 @@ func readParts(s *api.Stmt, rest string) []string {
 }
 
 func readAlloc(s *api.Stmt, rest string) []string {
-	name, rest, _ := strings.Cut(rest, " ")
-	kind, size, _ := strings.Cut(rest, " ")
+	name, rest := firstWord(rest)
+	kind, size := firstWord(rest)
 	s.Name = name
 	s.Kind, _ = num.Kind(kind)
 	return []string{size}
@@ -51,7 +61,7 @@ func readCondition(_ *api.Stmt, rest string) []string {
 }
 
 func readAssertion(s *api.Stmt, rest string) []string {
-	name, condition, _ := strings.Cut(rest, " ")
+	name, condition := firstWord(rest)
 	s.Name = name
 	return []string{condition}
 }
@@ -199,7 +209,7 @@ func (r *reader) statement(line string) bool {
 
 // begin reads the line with which a statement begins.
 func (r *reader) begin(content string) bool {
-	word, rest, _ := strings.Cut(strings.TrimSuffix(content, opening), " ")
+	word, rest := firstWord(strings.TrimSuffix(content, opening))
 	s, ok := r.starts[word]
 	if !ok {
 		return false
